@@ -1,0 +1,1 @@
+"""Timers and sleepers."""
