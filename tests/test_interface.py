@@ -89,7 +89,8 @@ class TheForm(unittest.TestCase):
         )
 
     def test_longer_than_calls_may_be_nested(self):
-        self.assertEqual(answers([1] * 5000), [1, 0] * 5000)
+        # Not assertEqual: to show where lists of this length differ takes it minutes.
+        self.assertTrue(answers([1] * 5000) == [1, 0] * 5000)
 
 
 class NothingIsKept(unittest.TestCase):
