@@ -7,28 +7,37 @@ OPENING = 1
 
 WRONG_NUMBER = -2
 ALREADY_ASLEEP = -4
-NOT_SET = -6
+TOO_MANY_NOT_TAKEN = -5
+NOT_THERE = -6
 NO_HOUSE = -7
 
+# The sorts of what happens.
+TIMER_DUE = 0
 STORED_IN = 1
+WOKEN = 2
+LATE = 3
 
 WORD_LIMIT = 4294967296
 LONGEST = 16777216
+LAST_TICK = 1073741824
+MOST_NOT_TAKEN = 1024
 
 
 class Timer:
-    def __init__(self, due, period, slack):
+    def __init__(self, due, period, slack, place):
         self.due = due
         self.period = period
         self.slack = slack
+        self.place = place
 
 
 class Sleeper:
-    def __init__(self, word, watches, late_at):
+    def __init__(self, word, watches, late_at, place):
         self.word = word
         self.watches = watches
         # None: it sleeps without end.
         self.late_at = late_at
+        self.place = place
 
 
 class House:
@@ -44,6 +53,9 @@ class House:
         # Tuples of sort, timer or hand, and tick, as long as nobody took them.
         self.happened = []
         self.counts = [0, 0, 0, 0]
+        # How many places were given out: timers and hands draw from one row of
+        # them, since what's due at the same tick has one common order.
+        self.places = 0
 
 
 def is_timer(number):
@@ -82,6 +94,14 @@ def is_span(number):
     return 0 <= number <= LONGEST
 
 
+def is_hand_count(number):
+    return 0 <= number <= 16
+
+
+def is_tick_count(number):
+    return 1 <= number <= 1000
+
+
 def moved_a_little(earliest, slack):
     # Without its lowest 1 bit a number can be halved more often, and nothing
     # between the two can be halved as often: so the last step that isn't too
@@ -94,14 +114,32 @@ def moved_a_little(earliest, slack):
     return tick
 
 
-def note_happening(house, sort, who, tick):
-    house.happened.append((sort, who, tick))
+def next_place(house):
+    house.places = house.places + 1
+    return house.places
+
+
+def note_happening(house, sort, who):
+    house.happened.append((sort, who, house.now))
     house.counts[sort] = (house.counts[sort] + 1) % WORD_LIMIT
+
+
+def put_timer(house, which, delay, period, slack):
+    due = moved_a_little(house.now + delay, slack)
+    house.timers[which] = Timer(due, period, slack, next_place(house))
 
 
 def wake_hand(house, hand, sort):
     house.sleepers.pop(hand)
-    note_happening(house, sort, hand, house.now)
+    note_happening(house, sort, hand)
+
+
+def move_hand(house, hand, word):
+    # It's late when it would have been, and keeps its place for that, too: it
+    # didn't fall asleep anew. Only in the order of those asleep it's behind all.
+    sleeper = house.sleepers.pop(hand)
+    sleeper.word = word
+    house.sleepers[hand] = sleeper
 
 
 def hands_asleep_at(house, word, watches):
@@ -119,12 +157,51 @@ def store_in_word(house, word, number):
     return len(watching)
 
 
+def due_up_to(house, end):
+    # No two have the same place, so tick and place alone tell which is first.
+    timers = [
+        (timer.due, timer.place, TIMER_DUE, which)
+        for which, timer in house.timers.items() if timer.due <= end
+    ]
+    hands = [
+        (sleeper.late_at, sleeper.place, LATE, hand)
+        for hand, sleeper in house.sleepers.items()
+        if sleeper.late_at is not None and sleeper.late_at <= end
+    ]
+    return timers + hands
+
+
+def let_timer_happen(house, which):
+    timer = house.timers.pop(which)
+    note_happening(house, TIMER_DUE, which)
+    if timer.period != 0:
+        put_timer(house, which, timer.period, timer.period, timer.slack)
+
+
+def let_ticks_go_by(house, end):
+    due = due_up_to(house, end)
+    while due:
+        first = min(due)
+        # What happens is told with this tick, and a timer set again from it.
+        house.now = first[0]
+        if first[2] == TIMER_DUE:
+            let_timer_happen(house, first[3])
+        else:
+            wake_hand(house, first[3], LATE)
+        # A timer that was set again may be due once more before the end.
+        due = due_up_to(house, end)
+    house.now = end
+
+
+def ticks_till_late(house, sleeper):
+    if sleeper.late_at is None:
+        return 0
+    return sleeper.late_at - house.now
+
+
 def answer_set(house, numbers):
-    period = numbers[2]
-    slack = numbers[3]
-    due = moved_a_little(house.now + numbers[1], slack)
-    house.timers[numbers[0]] = Timer(due, period, slack)
-    return [due - house.now]
+    put_timer(house, numbers[0], numbers[1], numbers[2], numbers[3])
+    return [house.timers[numbers[0]].due - house.now]
 
 
 def answer_stop(house, numbers):
@@ -136,7 +213,7 @@ def answer_stop(house, numbers):
 
 def answer_left(house, numbers):
     if numbers[0] not in house.timers:
-        return [NOT_SET]
+        return [NOT_THERE]
     return [house.timers[numbers[0]].due - house.now]
 
 
@@ -149,7 +226,7 @@ def answer_sleep(house, numbers):
     if house.words[word] != numbers[2]:
         return [1]
     late_at = None if span == 0 else house.now + span
-    house.sleepers[hand] = Sleeper(word, numbers[3] == 1, late_at)
+    house.sleepers[hand] = Sleeper(word, numbers[3] == 1, late_at, next_place(house))
     return [0]
 
 
@@ -164,6 +241,57 @@ def answer_add(house, numbers):
     return [woken, before]
 
 
+def answer_wake(house, numbers):
+    first = hands_asleep_at(house, numbers[0], False)[:numbers[1]]
+    for hand in first:
+        wake_hand(house, hand, WOKEN)
+    return [len(first)]
+
+
+def answer_move(house, numbers):
+    first = hands_asleep_at(house, numbers[0], False)[:numbers[2]]
+    for hand in first:
+        move_hand(house, hand, numbers[1])
+    return [len(first)]
+
+
+def answer_tick(house, numbers):
+    end = house.now + numbers[0]
+    if end > LAST_TICK:
+        return [WRONG_NUMBER]
+    before = len(house.happened)
+    if before > MOST_NOT_TAKEN:
+        return [TOO_MANY_NOT_TAKEN]
+    let_ticks_go_by(house, end)
+    return [len(house.happened) - before]
+
+
+def answer_next(house, numbers):
+    if not house.happened:
+        return [NOT_THERE]
+    return list(house.happened.pop(0))
+
+
+def answer_hand(house, numbers):
+    if numbers[0] not in house.sleepers:
+        return [0, 0, 0, 0]
+    sleeper = house.sleepers[numbers[0]]
+    watches = 1 if sleeper.watches else 0
+    return [1, sleeper.word, watches, ticks_till_late(house, sleeper)]
+
+
+def answer_word(house, numbers):
+    word = numbers[0]
+    watching = len(hands_asleep_at(house, word, True))
+    others = len(hands_asleep_at(house, word, False))
+    return [0, house.words[word], watching, others]
+
+
+def answer_counts(house, numbers):
+    there_now = [house.now, len(house.timers), len(house.sleepers), len(house.happened)]
+    return [0] + house.counts + there_now
+
+
 # What each call's numbers must be, in order: this tells how many it has, too.
 NUMBERS = {
     1: (),
@@ -173,6 +301,13 @@ NUMBERS = {
     5: (is_hand, is_word, is_content, is_choice, is_span),
     6: (is_word, is_content),
     7: (is_word, is_content),
+    8: (is_word, is_hand_count),
+    9: (is_word, is_word, is_hand_count),
+    10: (is_tick_count,),
+    11: (),
+    12: (is_hand,),
+    13: (is_word,),
+    14: (),
 }
 
 # Opening is not among them: it makes the house that these are handed.
@@ -183,6 +318,13 @@ ANSWERS = {
     5: answer_sleep,
     6: answer_store,
     7: answer_add,
+    8: answer_wake,
+    9: answer_move,
+    10: answer_tick,
+    11: answer_next,
+    12: answer_hand,
+    13: answer_word,
+    14: answer_counts,
 }
 
 

@@ -3,14 +3,7 @@
 import unittest
 
 from sleepers.timers import House, answer_in_house
-from tests.calls import LAST_NUMBER, LONGEST, OPEN, add, in_house, last, sleep, store
-
-
-def house_after(*calls):
-    house = House()
-    for call in calls:
-        answer_in_house(house, call[0], call[1:])
-    return house
+from tests.calls import LAST_NUMBER, LONGEST, OPEN, add, house_after, in_house, last, sleep, store
 
 
 class Sleep(unittest.TestCase):

@@ -6,10 +6,13 @@ import unittest
 
 from sleepers import timers
 from sleepers.timers import answers
-from tests.calls import HIGHEST, LAST_NUMBER, LONGEST, LOWEST, OPEN, add, in_house, left, line, set_timer, sleep
-from tests.calls import stop, store, told
+from tests.calls import COUNTS, HIGHEST, LAST_NUMBER, LONGEST, LOWEST, NEXT, OPEN, add, hand, in_house, left, line
+from tests.calls import move, set_timer, sleep, stop, store, tick, told, wake, word
 
 MIXED = line(
+    COUNTS, OPEN, set_timer(1, 9, 16, 7), sleep(1, 2, 0, 0, 40), sleep(3, 2), sleep(4, 2), sleep(5, 2, 0, 1), NEXT,
+    move(2, 9, 1), wake(2, 1), tick(33), NEXT, NEXT, hand(1), hand(4), hand(5), word(2), word(9), tick(1001),
+    tick(1000), store(2, 1), NEXT, COUNTS,
     left(3), OPEN, set_timer(3, 9, 16, 7), left(3), store(2, 8), sleep(1, 2, 8, 1), sleep(1, 2, 8), add(2, LAST_NUMBER),
     set_timer(64, 1), stop(3), sleep(9, 2, 8), OPEN, left(3), add(2, 1), sleep(LOWEST, HIGHEST, 0, 0, 0),
 )
@@ -53,17 +56,33 @@ class Open(unittest.TestCase):
             (0, {}, {}, [0] * 64, [], [0, 0, 0, 0]),
         )
 
+    def test_now_counts_and_what_happened_are_new(self):
+        self.assertEqual(
+            in_house(
+                set_timer(0, 9, 16), sleep(0, 0, 0, 1), sleep(1, 1), sleep(2, 2, 0, 0, 3), sleep(3, 3), tick(900),
+                store(0, 9), wake(1, 1), OPEN, COUNTS, NEXT, hand(3), word(0), tick(1), COUNTS,
+            )[8:],
+            [[0], [0] * 9, [-6], [0, 0, 0, 0], [0, 0, 0, 0], [0], [0, 0, 0, 0, 0, 1, 0, 0, 0]],
+        )
+
 
 class NoHouse(unittest.TestCase):
     def test_till_an_open(self):
-        before = (set_timer(1, 2), stop(1), left(1), sleep(1, 2), store(1, 2), add(1, 2))
-        self.assertEqual(told(*before), [[-7]] * 6)
+        before = (
+            set_timer(1, 2), stop(1), left(1), sleep(1, 2), store(1, 2), add(1, 2),
+            wake(2, 1), move(2, 1, 1), tick(1), NEXT, hand(1), word(1), COUNTS,
+        )
+        self.assertEqual(told(*before), [[-7]] * 13)
         self.assertEqual(
-            told(*before, OPEN, left(1), add(1, 0), sleep(1, 2)), [[-7]] * 6 + [[0], [-6], [0, 0], [0]]
+            told(*before, OPEN, left(1), add(1, 0), COUNTS, sleep(1, 2)),
+            [[-7]] * 13 + [[0], [-6], [0, 0], [0] * 9, [0]],
         )
 
     def test_before_a_wrong_number(self):
-        self.assertEqual(told(left(64), sleep(-1, 64, 0, 2, -1)), [[-7], [-7]])
+        self.assertEqual(
+            told(left(64), sleep(-1, 64, 0, 2, -1), wake(64, 17), move(64, -1, 17), tick(0), hand(16), word(64)),
+            [[-7]] * 7,
+        )
 
 
 class TheForm(unittest.TestCase):
@@ -71,6 +90,20 @@ class TheForm(unittest.TestCase):
         self.assertEqual(
             answers(line(left(0), OPEN, set_timer(0, 5, 0, 3), add(1, 7), add(64, 7), add(1, 0), left(1))),
             [1, -7, 1, 0, 1, 8, 2, 0, 0, 1, -2, 2, 0, 7, 1, -6],
+        )
+
+    def test_how_many_numbers_each_call_answers(self):
+        self.assertEqual(
+            answers(line(
+                OPEN, set_timer(9, 5), sleep(1, 2, 0, 1, 7), sleep(3, 2), wake(2, 0), move(2, 4, 1), hand(1), hand(2),
+                word(2), COUNTS, tick(5), NEXT, NEXT, tick(0), hand(16), word(-1), stop(9), left(9), store(2, 1),
+                add(2, 1),
+            )),
+            [
+                1, 0, 1, 5, 1, 0, 1, 0, 1, 0, 1, 1, 4, 1, 2, 1, 7, 4, 0, 0, 0, 0,
+                4, 0, 0, 1, 0, 9, 0, 0, 0, 0, 0, 0, 1, 2, 0, 1, 1, 3, 0, 9, 5, 1, -6, 1, -2, 1, -2, 1, -2,
+                1, 0, 1, -6, 1, 1, 2, 0, 1,
+            ],
         )
 
     def test_is_a_list_of_plain_whole_numbers(self):
@@ -81,6 +114,10 @@ class TheForm(unittest.TestCase):
 
     def test_the_numbers_of_a_call_are_no_calls(self):
         self.assertEqual(in_house(set_timer(1, 1, 16, 1), store(1, 1), add(1, 1)), [[2], [0], [0, 1]])
+        self.assertEqual(
+            in_house(wake(14, 11), move(1, 10, 14), tick(11), hand(14), word(1), word(11), NEXT),
+            [[0], [0], [0], [0, 0, 0, 0], [0, 0, 0, 0], [0, 0, 0, 0], [-6]],
+        )
 
     def test_sixty_calls(self):
         self.assertEqual(
@@ -126,8 +163,8 @@ class NothingIsKept(unittest.TestCase):
         self.assertEqual(answers([4, 0]), [1, -7])
 
     def test_two_houses_do_not_share(self):
-        answers(line(OPEN, store(1, 5), sleep(1, 1, 5, 1), set_timer(1, 5)))
-        self.assertEqual(in_house(add(1, 0), sleep(1, 1), left(1)), [[0, 0], [0], [-6]])
+        answers(line(OPEN, store(1, 5), sleep(1, 1, 5, 1), set_timer(1, 5), tick(9), store(1, 6)))
+        self.assertEqual(in_house(COUNTS, NEXT, add(1, 0), sleep(1, 1), left(1)), [[0] * 9, [-6], [0, 0], [0], [-6]])
 
     def test_prints_nothing(self):
         printed = io.StringIO()
